@@ -1,0 +1,1 @@
+"""Carried over: digits to a prime, and what is carried when numbers are added."""
