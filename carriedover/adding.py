@@ -20,8 +20,25 @@ def digits_of(number, prime):
     return found
 
 
+# Here, too, the last digit stands first.
+def number_from(digits, prime):
+    number = 0
+    for digit in reversed(digits):
+        number = number * prime + digit
+    return number
+
+
 def cross_sum(number, prime):
     return sum(digits_of(number, prime))
+
+
+# 0 is behind no number, so it can stand for none.
+def next_alike(number, prime, within):
+    wanted = cross_sum(number, prime)
+    for other in range(number + 1, number + within + 1):
+        if cross_sum(other, prime) == wanted:
+            return other
+    return 0
 
 
 def carried_places(first, second, prime):
@@ -45,6 +62,11 @@ def carried_places(first, second, prime):
 
 def count_carries(first, second, prime):
     return len(carried_places(first, second, prime))
+
+
+# For each part of the number, from 0 to all of it: how often it's carried when the part and the rest are added.
+def carries_of_parts(number, prime):
+    return [count_carries(part, number - part, prime) for part in range(number + 1)]
 
 
 # The number is 1 at least: 0 could be divided without end.

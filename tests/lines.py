@@ -5,9 +5,12 @@ from carriedover.digits import answers
 NUMBER_OF_CALL = {
     "begin": 0, "prime": 1, "digits": 2, "cross": 3,
     "carries": 4, "places": 5, "three": 6, "times": 7,
+    "next": 8, "ways": 9, "most": 10, "like": 11,
+    "number_of": 12, "without": 13, "told": 14,
 }
 
 PRIMES = [2, 3, 5, 7, 11, 13, 17, 19, 23, 29, 31, 37, 41, 43, 47, 53, 59, 61, 67, 71, 73, 79, 83, 89, 97]
+SOME_PRIMES = [2, 3, 5, 7, 31, 97]
 
 MILLION = 1000000
 HIGHEST = 4294967295

@@ -8,11 +8,15 @@ from lines import HIGHEST, line
 MIXED = [
     ("cross", 9), ("begin", 10), ("begin", 2), ("digits", 6), ("prime", 3), ("digits", 6), ("places", 8, 1),
     ("three", 1, 2, 3), ("times", 54), ("times", 0), ("begin", 97), ("carries", 96, 1), ("cross", HIGHEST),
+    ("told",), ("without", 100, 4), ("without", 4, 100), ("prime", 2), ("ways", 4, 2), ("ways", 4, HIGHEST),
+    ("most", 4), ("like", 6), ("like", 0), ("number_of", 1, 0, 1, 1), ("number_of", 1, 0, 2, 1), ("next", 7), ("told",),
 ]
 
 MIXED_ANSWERS = [
     1, -11, 1, -22, 1, 2, 4, 3, 0, 1, 1, 1, 2, 3, 2, 0, 2, 3, 2, 0, 1,
     3, 1, 1, 0, 1, 3, 1, -22, 1, 97, 1, 1, 1, -22,
+    1, 97, 2, 96, 1, 1, -33, 1, 97, 3, 2, 1, 3, 1, 0,
+    1, 2, 1, 9, 1, -33, 1, 13, 1, -22, 2, 1, 3, 1, 2,
 ]
 
 
@@ -32,9 +36,15 @@ class Answers(unittest.TestCase):
     def test_the_calls_stand_under_their_numbers(self):
         calls = [0, 3, 1, 5, 2, 7, 3, 7, 4, 3, 2, 5, 3, 2, 6, 4, 1, 5, 7, 50]
         self.assertEqual(answers(calls), [1, 3, 1, 3, 3, 2, 2, 1, 1, 3, 1, 1, 2, 1, 0, 3, 1, 1, 0, 1, 2])
+        calls = [0, 3, 8, 2, 9, 3, 1, 10, 3, 11, 5, 12, 2, 1, 0, 2, 13, 9, 4, 14]
+        self.assertEqual(answers(calls), [1, 3, 2, 1, 1, 3, 2, 1, 2, 1, 1, 1, 7, 1, 59, 2, 5, 2, 1, 3])
 
     def test_eighty_calls(self):
         self.assertEqual(answers([0, 2] + [4, 1, 1] * 79), [1, 2] + [1, 1] * 79)
+        self.assertEqual(answers([14] * 79 + [0, 2]), [1, -11] * 79 + [1, 2])
+        self.assertEqual(answers([0, 97] + [12, 96, 96, 96, 96] * 79), [1, 97] + [1, 97 ** 4 - 1] * 79)
+        # To tell so long lists apart takes unittest minutes, so they are not handed to it.
+        self.assertTrue(answers([0, 97] + [9, 60, 0] * 79) == [1, 97] + ([62, 61] + list(range(61))) * 79)
 
     def test_the_list_stays_as_it_was(self):
         calls = line(*MIXED)

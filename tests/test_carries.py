@@ -3,20 +3,8 @@
 import itertools
 import unittest
 
-from lines import HIGHEST, MILLION, PRIMES, ask_many, ask_to, sample_numbers
-
-SOME_PRIMES = [2, 3, 5, 7, 31, 97]
-
-
-def places_by_powers(first, second, prime):
-    """What holds: it's carried where the next power's rests of both are that power or more."""
-    found = []
-    power = prime
-    for place in range(25):
-        if first % power + second % power >= power:
-            found.append(place)
-        power *= prime
-    return found
+from lines import HIGHEST, MILLION, PRIMES, SOME_PRIMES, ask_many, ask_to, sample_numbers
+from model import place_list
 
 
 def some_pairs(prime):
@@ -66,7 +54,7 @@ class Carries(unittest.TestCase):
         for prime in SOME_PRIMES:
             pairs = some_pairs(prime)
             given = ask_many(prime, [("carries", first, second) for first, second in pairs])
-            self.assertEqual(given, [[len(places_by_powers(first, second, prime))] for first, second in pairs])
+            self.assertEqual(given, [[len(place_list(first, second, prime))] for first, second in pairs])
 
     def test_the_cross_sums_tell_it(self):
         for prime in SOME_PRIMES:
@@ -86,7 +74,8 @@ class Carries(unittest.TestCase):
 class Places(unittest.TestCase):
 
     def test_how_many_then_they_rising(self):
-        self.assertEqual(ask_to(2, ("places", 3, 5), ("places", 5, 5), ("places", 2, 5)), [[3, 0, 1, 2], [2, 0, 2], [0]])
+        self.assertEqual(ask_to(2, ("places", 3, 5), ("places", 5, 5), ("places", 2, 5)),
+                         [[3, 0, 1, 2], [2, 0, 2], [0]])
         self.assertEqual(ask_to(3, ("places", 5, 4), ("places", 6, 3)), [[2, 0, 1], [1, 1]])
         self.assertEqual(ask_to(7, ("places", 20, 9), ("places", 295, 55)), [[1, 0], [2, 0, 2]])
 
@@ -111,7 +100,7 @@ class Places(unittest.TestCase):
             pairs = some_pairs(prime)
             given = ask_many(prime, [("places", first, second) for first, second in pairs])
             for (first, second), (many, *places) in zip(pairs, given, strict=True):
-                self.assertEqual(places, places_by_powers(first, second, prime), (prime, first, second))
+                self.assertEqual(places, place_list(first, second, prime), (prime, first, second))
                 self.assertEqual(many, len(places))
 
 

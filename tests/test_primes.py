@@ -1,4 +1,4 @@
-"""begin and prime (promise 1), and what is refused ahead of a begin."""
+"""begin, prime and told (promise 1), and what is refused ahead of a begin."""
 
 import unittest
 
@@ -8,11 +8,14 @@ NO_PRIMES = [0, 1, 4, 6, 9, 25, 49, 77, 87, 91, 93, 95, 98, 99, 100, 101, 103, 9
 
 ALL_BUT_BEGIN = [
     ("prime", 3), ("digits", 3), ("cross", 3), ("carries", 3, 3), ("places", 3, 3), ("three", 3, 3, 3), ("times", 3),
+    ("next", 3), ("ways", 3, 1), ("most", 3), ("like", 3), ("number_of", 1, 0, 1, 0), ("without", 3, 2), ("told",),
 ]
 
 REFUSED_ANYHOW = [
     ("prime", 4), ("prime", HIGHEST), ("digits", HIGHEST), ("cross", 1000001), ("carries", HIGHEST, HIGHEST),
     ("places", 1000001, 0), ("three", 0, 0, HIGHEST), ("times", 0), ("times", HIGHEST),
+    ("next", MILLION), ("ways", 61, 0), ("most", 61), ("like", 1001), ("like", 0), ("number_of", 0, 97, 0, 0),
+    ("without", MILLION + 1, 0), ("without", 1, 2),
 ]
 
 
@@ -61,6 +64,32 @@ class Prime(unittest.TestCase):
         for number in NO_PRIMES:
             given = ask_to(5, ("prime", number), ("digits", 13), ("prime", 7), ("prime", number), ("prime", 2))
             self.assertEqual(given, [[-22], [2, 3, 2], [5], [-22], [7]], number)
+
+
+class Told(unittest.TestCase):
+
+    def test_is_the_prime_of_the_begin(self):
+        for prime in PRIMES:
+            self.assertEqual(ask_to(prime, ("told",)), [[prime]])
+
+    def test_is_what_prime_or_a_begin_has_made_it(self):
+        given = ask_to(2, ("prime", 97), ("told",), ("told",), ("begin", 5), ("told",), ("prime", 3), ("told",))
+        self.assertEqual(given, [[2], [97], [97], [5], [5], [5], [3]])
+
+    def test_no_refusal_changes_it(self):
+        for number in NO_PRIMES:
+            given = ask_to(7, ("begin", number), ("told",), ("prime", number), ("told",))
+            self.assertEqual(given, [[-22], [7], [-22], [7]], number)
+        for call in REFUSED_ANYHOW:
+            [refused], told = ask_to(89, call, ("told",))
+            self.assertIn(refused, (-22, -33), call)
+            self.assertEqual(told, [89], call)
+
+    def test_no_other_call_changes_it(self):
+        for call in ALL_BUT_BEGIN[1:]:
+            given = ask_to(5, call, ("told",))
+            self.assertGreaterEqual(given[0][0], 0, call)
+            self.assertEqual(given[1], [5], call)
 
 
 class AheadOfBegin(unittest.TestCase):
